@@ -117,7 +117,12 @@ func fill(list []byte) {
 
 func TestPackedBytesAreNewMemory(t *testing.T) {
 	word := impl.PackWord(258, 2).Bytes
+	kept := impl.PackWord(258, 2).Bytes
 	fill(word)
+	// Held ahead of the next call, which could put the same bytes there again.
+	if !bytes.Equal(kept, []byte{2, 1}) {
+		t.Error("PackWord answers twice with one memory")
+	}
 	if again := impl.PackWord(258, 2).Bytes; !bytes.Equal(again, []byte{2, 1}) {
 		t.Error("PackWord answers memory that it keeps:", again)
 	}
@@ -133,6 +138,11 @@ func TestPackedBytesAreNewMemory(t *testing.T) {
 			t.Error("PackFrame shares memory with its argument")
 		}
 		frame = impl.PackFrame(body).Bytes
+		other := impl.PackFrame(body).Bytes
+		fill(other)
+		if !bytes.Equal(frame, want) {
+			t.Error("PackFrame answers twice with one memory")
+		}
 		fill(room)
 		if !bytes.Equal(frame, want) {
 			t.Error("PackFrame's answer changes with its argument")
