@@ -1,8 +1,12 @@
 package tests
 
 import (
+	"go/ast"
+	"go/parser"
+	"go/token"
 	"os"
 	"os/exec"
+	"path/filepath"
 	"reflect"
 	"slices"
 	"sync"
@@ -120,6 +124,77 @@ func TestRingAnswersWhoeverIsAskedFirst(t *testing.T) {
 		if out, err := run.CombinedOutput(); err != nil {
 			t.Errorf("%s is asked first: %v\n%s", asked, err, out)
 		}
+	}
+}
+
+// keptSpots are the names of the spots that are kept, as often as they stand in
+// a piece of the program.
+func keptSpots(piece ast.Node) []string {
+	var names []string
+	ast.Inspect(piece, func(n ast.Node) bool {
+		if name, ok := n.(*ast.Ident); ok && (name.Name == "nodeSpots" || name.Name == "seriesSpots") {
+			names = append(names, name.Name)
+		}
+		return true
+	})
+	return names
+}
+
+// droppedSpots are those of them that are read, and nothing comes of it.
+func droppedSpots(piece ast.Node) []string {
+	var names []string
+	ast.Inspect(piece, func(n ast.Node) bool {
+		if set, ok := n.(*ast.AssignStmt); ok && set.Tok == token.ASSIGN && len(set.Lhs) == 1 {
+			if to, ok := set.Lhs[0].(*ast.Ident); ok && to.Name == "_" {
+				names = append(names, keptSpots(set.Rhs[0])...)
+			}
+		}
+		return true
+	})
+	return names
+}
+
+// functionsOf are all functions that the program's files declare.
+func functionsOf(t *testing.T) []*ast.FuncDecl {
+	t.Helper()
+	files, err := filepath.Glob(filepath.Join("..", "impl", "*.go"))
+	if err != nil {
+		t.Fatal(err)
+	}
+	var list []*ast.FuncDecl
+	for _, name := range files {
+		file, err := parser.ParseFile(token.NewFileSet(), name, nil, 0)
+		if err != nil {
+			t.Fatal(err)
+		}
+		for _, d := range file.Decls {
+			if f, ok := d.(*ast.FuncDecl); ok {
+				list = append(list, f)
+			}
+		}
+	}
+	return list
+}
+
+// No call can show where a spot comes from that is always the same, but the
+// program's text can.
+func TestNoAnswerIsComputedFromSpotsThatAreKept(t *testing.T) {
+	read := map[string]bool{}
+	for _, f := range functionsOf(t) {
+		name := f.Name.Name
+		if name == "makeSpots" {
+			continue
+		}
+		kept, dropped := keptSpots(f), droppedSpots(f)
+		if len(kept) != len(dropped) {
+			t.Errorf("%s has something come of spots that are kept: %v; dropped are %v", name, kept, dropped)
+		}
+		for _, spots := range dropped {
+			read[spots] = read[spots] || f.Name.IsExported()
+		}
+	}
+	if !read["nodeSpots"] || !read["seriesSpots"] {
+		t.Error("exported functions read of the spots that are kept only", read)
 	}
 }
 
